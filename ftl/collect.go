@@ -20,7 +20,7 @@ func (s *engine) list(kind byte) []wear.Block {
 		x := s.blocks[n]
 		one := s.Flash().One(n)
 		used := x.kind != kind || x.stuck || x.kind == isData && (x.pin > s.maps.root.seq || s.open[0] == n || s.open[1] == n)
-		out[n] = wear.Block{N: n, Live: x.live, Pages: s.pages(one), Worn: x.worn, Open: used, One: one, Bad: x.kind == isBad}
+		out[n] = wear.Block{N: n, Live: int(x.live), Pages: s.pages(one), Worn: int(x.worn), Open: used, One: one, Bad: x.kind == isBad}
 	}
 	return out
 }

@@ -133,7 +133,7 @@ func (s *engine) append(h head, payload []byte, one bool) (smap.Place, api.Errno
 		if e != api.OK {
 			return smap.Place{}, e
 		}
-		h.seq, h.worn, h.erases = s.seq+1, s.blocks[b].worn, s.erases
+		h.seq, h.worn, h.erases = s.seq+1, int(s.blocks[b].worn), s.erases
 		first := s.Flash().Next(b) == 0
 		page, e := s.Media.Write(b, h.pack(payload, s.c.Sector))
 		switch e {

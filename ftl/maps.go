@@ -139,7 +139,7 @@ func (s *engine) appendMap(h head, payload []byte) (smap.Place, api.Errno) {
 			s.blocks[b].kind = isMap
 		}
 		b := a.open
-		h.seq, h.worn, h.erases = s.seq, s.blocks[b].worn, s.erases
+		h.seq, h.worn, h.erases = s.seq, int(s.blocks[b].worn), s.erases
 		first := s.Flash().Next(b) == 0
 		page, e := s.Media.Write(b, h.pack(payload, s.c.Sector))
 		switch e {

@@ -275,7 +275,7 @@ func (o *opening) count() {
 			o.be(b, isData)
 		}
 		if o.own[b] {
-			o.blocks[b].worn = h.worn
+			o.blocks[b].worn = int32(h.worn)
 			known, sum = known+1, sum+uint64(h.worn)
 		}
 	}
@@ -284,7 +284,7 @@ func (o *opening) count() {
 	if left := len(o.blocks) - known; left > 0 && o.erases > sum {
 		for b := range o.blocks {
 			if !o.own[b] {
-				o.blocks[b].worn = int(o.erases-sum) / left
+				o.blocks[b].worn = int32(int(o.erases-sum) / left)
 			}
 		}
 	}
