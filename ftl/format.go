@@ -110,32 +110,48 @@ func (s *engine) tryOut() api.Errno {
 	return api.OK
 }
 
-// wipe erases all blocks in which something is. Those that have failed keep it: what is written from now on is later than it; which of them may hold records is told.
+// wipe erases all blocks in which something is: first those that may hold records, so that a store that was there is gone as a whole. Those that have failed keep what they hold: what is written from now on is later than it; which of them may hold records is told.
 func (s *engine) wipe() ([]int, api.Errno) {
-	var stale []int
+	var recs, others, stale []int
 	for b := range s.blocks {
 		if s.Flash().Next(b) == 0 || b == s.maps.open {
 			continue
 		}
-		if s.blocks[b].kind != isBad {
-			switch e := s.erase(b, false); e {
-			case api.OK:
-				continue
-			case api.ErrFail:
-				s.blocks[b].kind = isBad
-			default:
-				return nil, e
-			}
+		data, e := s.Media.Read(b, 0)
+		if e == api.ErrDown {
+			return nil, e
 		}
-		own, e := s.outdo(b)
+		if _, own := unpack(data); own || e != api.OK {
+			others = append(others, b)
+		} else {
+			recs = append(recs, b)
+		}
+	}
+	for _, b := range append(recs, others...) {
+		gone, e := s.wipeOne(b)
 		if e != api.OK {
 			return nil, e
 		}
-		if !own {
+		if !gone {
 			stale = append(stale, b)
 		}
 	}
 	return stale, api.OK
+}
+
+// wipeOne tells whether a block holds nothing any more that could be taken for records.
+func (s *engine) wipeOne(b int) (bool, api.Errno) {
+	if s.blocks[b].kind != isBad {
+		switch e := s.erase(b, false); e {
+		case api.OK:
+			return true, api.OK
+		case api.ErrFail:
+			s.blocks[b].kind = isBad
+		default:
+			return false, e
+		}
+	}
+	return s.outdo(b)
 }
 
 // outdo lets the log begin behind what a block holds; false, if pages in it are none of a store.
