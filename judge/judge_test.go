@@ -7,6 +7,7 @@ import (
 	"testing"
 
 	"locket/api"
+	"locket/areas"
 	"locket/deck"
 	"locket/frame"
 	"locket/geom"
@@ -294,6 +295,7 @@ func TestDeck(t *testing.T) { // T1, T2
 			t.Fatal(e)
 		}
 		j := judged(t)
+		table := setUp(t, d, j, seed%3 == 0)
 		fails := 0
 		for i, over := 0, false; i < 200 && !over; i++ {
 			if r.Intn(40) == 0 && fails < shape().Spare {
@@ -324,7 +326,7 @@ func TestDeck(t *testing.T) { // T1, T2
 						t.Fatalf("seed %d, %d: %v", seed, i, e)
 					}
 				}
-				err = j.PowerUp(func(place int) []byte { return sector(d, place) })
+				err = j.PowerUp(func(place int) []byte { return sector(d, table, place) })
 			}
 			if err != nil {
 				t.Fatalf("seed %d, %d: %v", seed, i, err)
@@ -334,13 +336,35 @@ func TestDeck(t *testing.T) { // T1, T2
 	t.Log(cuts, "cuts")
 }
 
-// sector is what a deck holds at a place, as long as there are no general areas.
-func sector(d *deck.Deck, place int) []byte {
-	area := api.User
-	if place >= 64 {
-		area, place = api.Boot0+(place-64)/4, (place-64)%4
+// setUp sets general areas up, one of them enhanced, and lets the power come up anew.
+func setUp(t *testing.T, d *deck.Deck, j *judge.Judge, general bool) *areas.Table {
+	t.Helper()
+	setting := areas.Setting{}
+	if general {
+		setting = areas.Setting{Sizes: [4]int{2, 0, 1, 0}, Enhanced: 0x10, Done: true}
+		b := joined(start(), write(60, 5), set(api.RGen, 2), set(api.RGen+2, 1), set(api.REnh, 0x10), set(api.RDone, 1))
+		a, _ := d.Move(deck.Move{Kind: deck.Send, Bytes: b})
+		if err := j.Send(b, a); err != nil {
+			t.Fatal(err)
+		}
 	}
-	b, _ := d.Read(area, place)
+	table, e := areas.New(shape(), setting)
+	if e != api.OK {
+		t.Fatal(e)
+	}
+	if _, e := d.Move(deck.Move{Kind: deck.PowerUp}); e != api.OK {
+		t.Fatal(e)
+	}
+	if err := j.PowerUp(func(place int) []byte { return sector(d, table, place) }); err != nil {
+		t.Fatal(err)
+	}
+	return table
+}
+
+// sector is what a deck holds at a place.
+func sector(d *deck.Deck, table *areas.Table, place int) []byte {
+	area, n, _ := table.Of(place)
+	b, _ := d.Read(area, n)
 	return b
 }
 
@@ -353,7 +377,13 @@ func script(r *rand.Rand, m *model.Abstract, settings bool) []byte {
 	sector := func() uint32 { return uint32(r.Intn(12)) * uint32(1+r.Intn(5)) }
 	if settings {
 		for range 1 + r.Intn(3) {
-			b = append(b, [][]byte{set(api.RCache, 1), set(api.RCache, 1), set(api.RCache, 0), set(api.RBarrier, 1), set(api.RBarrier, 1), set(api.RFlush, 1), set(api.RWork, 1), set(api.RArea, r.Intn(3)), set(api.RArea, 0)}[r.Intn(9)]...)
+			if r.Intn(6) == 0 {
+				b = append(b, joined(set(api.RArea, api.Rpa), keyed(r, m), ask(api.ReadOne, 0), set(api.RArea, 0))...)
+			}
+			if r.Intn(6) == 0 {
+				b = append(b, ask([]int{api.SetGuard, api.ClrGuard, api.SendGuard}[r.Intn(3)], sector())...)
+			}
+			b = append(b, [][]byte{set(api.RCache, 1), set(api.RCache, 1), set(api.RCache, 0), set(api.RBarrier, 1), set(api.RBarrier, 1), set(api.RFlush, 1), set(api.RWork, 1), set(api.RArea, []int{0, 1, 2, 4, 6}[r.Intn(5)]), set(api.RArea, 0)}[r.Intn(9)]...)
 		}
 		return b
 	}
@@ -378,4 +408,15 @@ func script(r *rand.Rand, m *model.Abstract, settings bool) []byte {
 		}
 	}
 	return b
+}
+
+// keyed is a frame for the keyed area, mostly a good one.
+func keyed(r *rand.Rand, m *model.Abstract) []byte {
+	f := rpa.Frame{Type: 1 + r.Intn(5), Addr: r.Intn(4), Count: 1, Counter: m.Rpa().Counter}
+	r.Read(f.Data[:])
+	if m.Rpa().HasKey {
+		f = rpa.Sign(f, m.Rpa().Key)
+	}
+	b := rpa.Encode(f)
+	return append(ask(api.WriteOne, 0), token.Lay(b[:])...)
 }
