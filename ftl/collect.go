@@ -2,7 +2,6 @@ package ftl
 
 import (
 	"locket/api"
-	"locket/smap"
 	"locket/wear"
 )
 
@@ -59,13 +58,14 @@ func (s *engine) collect(n int) (int, api.Errno) {
 			break
 		}
 		b := s.victim
-		if s.cursor >= s.Flash().Next(b) {
+		if len(s.rest) == 0 {
 			s.victim = -1
 			s.blocks[b].stuck = s.blocks[b].live > 0
 			continue
 		}
-		s.cursor++
-		did, e := s.move(b, s.cursor-1)
+		index := s.rest[0]
+		s.rest = s.rest[1:]
+		did, e := s.move(b, index)
 		if e != api.OK {
 			return moved, e
 		}
@@ -75,6 +75,21 @@ func (s *engine) collect(n int) (int, api.Errno) {
 	}
 	return moved, api.OK
 }
+
+// living tells what lives in a block: it is sought in the map, so that pages that are dead need not be read.
+func (s *engine) living(b int) []int {
+	left := int(s.blocks[b].live)
+	out := make([]int, 0, left)
+	for i := 0; i < s.sectors+records && len(out) < left; i++ {
+		if p, ok := s.maps.place(i); ok && p.Block == b {
+			out = append(out, i)
+		}
+	}
+	return out
+}
+
+// pick takes a block as the one that is collected next.
+func (s *engine) pick(b int) { s.victim, s.rest = b, s.living(b) }
 
 // choose finds the block that is collected next.
 func (s *engine) choose() bool {
@@ -88,31 +103,30 @@ func (s *engine) choose() bool {
 		b, ok = wear.Victim(l...)
 	}
 	if ok {
-		s.victim, s.cursor = b, 0
+		s.pick(b)
 	}
 	return ok
 }
 
-// move writes a page anew, if it is live.
-func (s *engine) move(b, page int) (bool, api.Errno) {
-	data, e := s.Media.Read(b, page)
+// move writes the page of an index anew, if it still lies in a block.
+func (s *engine) move(b, index int) (bool, api.Errno) {
+	at, live := s.maps.place(index)
+	if !live || at.Block != b {
+		return false, api.OK
+	}
+	data, e := s.Media.Read(b, at.Page)
 	if e == api.ErrDown {
 		return false, e
 	}
-	h, ok := unpack(data)
-	if e != api.OK || !ok || h.kind != dataPage {
-		return false, api.OK
+	if e != api.OK {
+		return false, api.OK // what cannot be read stays where it is
 	}
-	at, live := s.maps.place(h.index)
-	if !live || at != (smap.Place{Block: b, Page: page}) {
-		return false, api.OK
-	}
-	one := h.index < s.sectors && s.enhanced(h.index)
-	p, e := s.append(head{kind: dataPage, group: 1, index: h.index}, data[headSize:], one)
+	one := index < s.sectors && s.enhanced(index)
+	p, e := s.append(head{kind: dataPage, group: 1, index: index}, data[headSize:], one)
 	if e != api.OK {
 		return false, e
 	}
-	s.moved(h.index, p)
+	s.moved(index, p)
 	return true, api.OK
 }
 
@@ -121,8 +135,8 @@ func (s *engine) heal() api.Errno {
 	for len(s.sick) > 0 {
 		b := s.sick[0]
 		s.sick = s.sick[1:]
-		for page := range s.Flash().Next(b) {
-			if _, e := s.move(b, page); e == api.ErrDown {
+		for _, index := range s.living(b) {
+			if _, e := s.move(b, index); e == api.ErrDown {
 				return e
 			}
 		}
@@ -167,7 +181,7 @@ func (s *engine) worthIt() bool {
 	}
 	b, ok := wear.Old(gap, s.list(isData)...)
 	if ok {
-		s.victim, s.cursor = b, 0
+		s.pick(b)
 	}
 	return ok
 }
