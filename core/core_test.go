@@ -48,7 +48,7 @@ func powerUp(t *testing.T, c api.Config, f *nand.Flash) *core.Card {
 	if err != nil {
 		t.Fatal(err)
 	}
-	if most := 3*c.Blocks + 6*c.Pages + (c.User+2*c.Boot+c.Rpa)/4 + 16 + 2*c.User; int(k.Loads()) > most {
+	if most := 3*c.Blocks + 6*c.Pages + 4*((c.User+2*c.Boot+c.Rpa)/16) + 16 + 2*c.User; int(k.Loads()) > most {
 		t.Fatalf("a power-up reads %d pages, of %d", k.Loads(), most)
 	}
 	return k
@@ -482,16 +482,24 @@ func TestSwitchCut(t *testing.T) { // P2203, P2205
 	}
 }
 
-// TestBounds looks at how many pages commands program.
+// TestBounds looks at how many pages commands program, while blocks fail.
 func TestBounds(t *testing.T) { // P2204
 	for _, c := range []api.Config{shape(), {Blocks: 35, Pages: 4, Sector: 128, User: 16, Boot: 1, Rpa: 1, Group: 1, Cache: 64, Spare: 2}, {Blocks: 62, Pages: 32, Sector: 448, User: 640, Boot: 8, Rpa: 8, Group: 20, Cache: 16, Spare: 3}} {
 		r := rand.New(rand.NewSource(1))
-		k := make1(t, c, flash(t, c))
+		f := flash(t, c)
+		k := make1(t, c, f)
 		up(k)
+		fails := 0
 		for i := range 4000 {
-			before := k.Programs()
-			n, sectors := 0, 0
-			switch r.Intn(6) {
+			if r.Intn(200) == 0 && fails < c.Spare {
+				if n := r.Intn(c.Blocks); !f.Failed(n) {
+					f.Fail(n)
+					fails++
+				}
+			}
+			before, was := k.Programs(), bad(k, c)
+			n, sectors, flushed := 0, 0, 0
+			switch r.Intn(7) {
 			case 0:
 				from := r.Intn(c.User)
 				to := from + r.Intn(c.User-from)
@@ -501,6 +509,9 @@ func TestBounds(t *testing.T) { // P2204
 				sectors = to - from + 1
 			case 1:
 				set(k, api.RWork, 1)
+			case 2:
+				set(k, api.RCache, r.Intn(2))
+				flushed = c.Cache
 			default:
 				n = 1 + r.Intn(min(64, c.User))
 				do(k, api.SetCount, uint32(n))
@@ -511,8 +522,71 @@ func TestBounds(t *testing.T) { // P2204
 					}
 				}
 			}
-			if most := 12*n + sectors + 4*c.Pages + 96; int(k.Programs()-before) > most {
+			most := 12*(n+flushed) + sectors + (1+bad(k, c)-was)*(4*c.Pages+96)
+			if int(k.Programs()-before) > most {
 				t.Fatalf("%d blocks, %d sectors: %d pages, of %d", n, sectors, k.Programs()-before, most)
+			}
+		}
+	}
+}
+
+// bad is how many blocks are known to be so.
+func bad(k *core.Card, c api.Config) int {
+	out := 0
+	for n := range c.Blocks {
+		if kind, _ := k.Uses(n); kind == 4 {
+			out++
+		}
+	}
+	return out
+}
+
+// TestLoads looks at how many pages power-ups read, those too at which enhanced areas come up on a card that is full.
+func TestLoads(t *testing.T) { // P2204
+	for seed := range int64(25) {
+		r := rand.New(rand.NewSource(seed))
+		c := api.Config{Pages: 4 + 2*r.Intn(20), Sector: 128 + 64*r.Intn(6), Boot: 1 + r.Intn(8), Rpa: 1 + r.Intn(8), Group: 1 + r.Intn(30), Spare: r.Intn(5)}
+		groups := 2 + r.Intn(30)
+		general := 1 + r.Intn(groups-1)
+		c.User = c.Group * groups
+		enhanced, bits := general*c.Group, 1<<api.Gen0
+		if r.Intn(2) == 0 {
+			enhanced, bits = c.User, bits|1
+		}
+		c.Blocks = max(geom.Need(c, enhanced), geom.Need(c, 0))
+		if geom.Check(c) != api.OK {
+			continue
+		}
+		f := flash(t, c)
+		k := make1(t, c, f)
+		up(k)
+		for i := range c.User * (1 + 4*r.Intn(3)) {
+			x := i
+			if i >= c.User {
+				x = r.Intn(c.User)
+			}
+			write(k, c, x, byte(x))
+		}
+		set(k, api.RGen, general)
+		set(k, api.REnh, bits)
+		if a := set(k, api.RDone, 1); a.Status&api.BSwitch != 0 {
+			t.Fatal("it does not fit")
+		}
+		for _, more := range []int{2 * enhanced, 0} {
+			f.Cut()
+			f.On()
+			k, err := core.PowerUp(c, f)
+			if err != nil {
+				t.Fatal(err)
+			}
+			if most := 3*c.Blocks + 6*c.Pages + 4*((c.User+2*c.Boot+c.Rpa)/16) + 16 + more; int(k.Loads()) > most {
+				t.Fatalf("%+v: %d pages, of %d", c, k.Loads(), most)
+			}
+			up(k)
+			for i := range c.User - general*c.Group {
+				if first(t, k, i) != byte(i) {
+					t.Fatalf("sector %d", i)
+				}
 			}
 		}
 	}
