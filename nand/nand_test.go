@@ -2,6 +2,7 @@ package nand_test
 
 import (
 	"bytes"
+	"math"
 	"testing"
 
 	"locket/api"
@@ -184,6 +185,32 @@ func TestCut(t *testing.T) { // P404
 	is(t, "armed while off", f.Program(1, 0, raw(2, 0)), api.ErrDown)
 	if s, p, _, _ := f.Count(); s != 7 || p != 3 {
 		t.Errorf("%d steps, %d programs", s, p)
+	}
+}
+
+func TestArmAtTheEdges(t *testing.T) { // P404
+	for _, n := range []int{1, 0, -1, -2, math.MinInt + 1, math.MinInt} {
+		f := flash(t, 2, 4, 2)
+		f.Arm(n)
+		is(t, "program", f.Program(0, 0, raw(2, 0)), api.ErrDown)
+		if s, p, _, _ := f.Count(); !f.Off() || f.Next(0) != 0 || s != 0 || p != 0 {
+			t.Errorf("Arm(%d): off %v, next %d, %d steps, %d programs", n, f.Off(), f.Next(0), s, p)
+		}
+		f.On()
+		is(t, "program once more", f.Program(0, 0, raw(2, 0)), api.OK)
+		f.Arm(n)
+		is(t, "erase", f.Erase(0), api.ErrDown)
+		if !f.Off() || f.Next(0) != 1 {
+			t.Errorf("Arm(%d): off %v, next %d behind an erase", n, f.Off(), f.Next(0))
+		}
+	}
+	for _, n := range []int{3, math.MaxInt} {
+		f := flash(t, 2, 4, 2)
+		f.Arm(n)
+		is(t, "ahead of it", f.Program(0, 0, raw(2, 0)), api.OK)
+		if f.Off() {
+			t.Errorf("Arm(%d): the power went too early", n)
+		}
 	}
 }
 
