@@ -30,9 +30,6 @@ func Format(c api.Config, m *media.Media, enhanced func(sector int) bool) (*Stor
 }
 
 func (s *engine) format(enhanced func(sector int) bool) api.Errno {
-	if s.narrow() {
-		return api.ErrArg
-	}
 	count := 0
 	for i := range s.sectors {
 		if enhanced(i) {
@@ -45,9 +42,6 @@ func (s *engine) format(enhanced func(sector int) bool) api.Errno {
 	}
 	if s.Flash().Off() {
 		return api.ErrDown
-	}
-	if e := s.tryOut(); e != api.OK {
-		return e
 	}
 	stale, e := s.wipe()
 	if e != api.OK {
@@ -63,58 +57,11 @@ func (s *engine) format(enhanced func(sector int) bool) api.Errno {
 	return s.writeMap()
 }
 
-// page is the bytes of a page of the store.
-func (s *engine) page() []byte { return head{}.pack(nil, s.c.Sector) }
-
-// narrow tells whether it can be seen, without a page being written, that the media's pages have another length.
-func (s *engine) narrow() bool {
-	for b := range s.blocks {
-		if s.Flash().Off() || s.Media.Room(b) == 0 {
-			_, e := s.Media.Write(b, s.page())
-			return e == api.ErrArg
-		}
-	}
-	return false
-}
-
-// tryOut writes a page, to learn whether the media's pages have the right length: by their face alone there is no other way. It goes to a block in which nothing is, that the map is written to afterwards, if there is one.
-func (s *engine) tryOut() api.Errno {
-	s.maps.open = -1
-	at := -1
-	for b := range s.blocks {
-		if s.blocks[b].kind == isBad {
-			continue
-		}
-		if blank := s.Flash().Next(b) == 0 && !s.Flash().One(b); blank || at < 0 {
-			at = b
-			if blank {
-				break
-			}
-		}
-	}
-	if at < 0 {
-		return api.ErrFail
-	}
-	blank := s.Flash().Next(at) == 0
-	switch _, e := s.Media.Write(at, s.page()); e {
-	case api.OK:
-		if blank {
-			s.maps.open = at
-		}
-	case api.ErrFail:
-		s.blocks[at].kind = isBad
-	case api.ErrFull:
-	default:
-		return e
-	}
-	return api.OK
-}
-
 // wipe erases all blocks in which something is: first those that may hold records, so that a store that was there is gone as a whole. Those that have failed keep what they hold: what is written from now on is later than it; which of them may hold records is told.
 func (s *engine) wipe() ([]int, api.Errno) {
 	var recs, others, stale []int
 	for b := range s.blocks {
-		if s.Flash().Next(b) == 0 || b == s.maps.open {
+		if s.Flash().Next(b) == 0 {
 			continue
 		}
 		data, e := s.Media.Read(b, 0)
@@ -176,10 +123,6 @@ func (s *engine) outdo(b int) (bool, api.Errno) {
 
 // firstRecords makes the records, and the sheets of the map.
 func (s *engine) firstRecords(stale []int) api.Errno {
-	open := s.maps.open
-	if open >= 0 {
-		s.blocks[open].kind = isMap
-	}
 	l := s.pad(nil)
 	for _, b := range l {
 		s.blocks[b].kind = isRec
@@ -197,7 +140,6 @@ func (s *engine) firstRecords(stale []int) api.Errno {
 	_, _, _, after := s.Flash().Count()
 	s.erases += uint64(after - before)
 	e := s.draw(nil)
-	s.maps.open = open
 	s.maps.root.seq = s.seq
 	return e
 }

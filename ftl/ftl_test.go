@@ -94,6 +94,78 @@ func TestFormat(t *testing.T) { // P1101
 	wraps(t, "cut", s, err, api.ErrDown)
 }
 
+// seen is what can be told of a flash.
+func seen(f *nand.Flash) [4]int64 {
+	var x [4]int64
+	x[0], x[1], x[2], x[3] = f.Count()
+	return x
+}
+
+// TestWidth asks for each length of pages, whatever else is wrong.
+func TestWidth(t *testing.T) { // P1101: ErrArg is ahead of all other errors, and changes nothing
+	c := small()
+	c.Sector, c.Blocks = 192, geom.Need(c, 0)
+	all := func(int) bool { return true }
+	for _, there := range []bool{false, true} {
+		f, m := flashOf(c)
+		if there {
+			if _, err := ftl.Format(c, m, none); err != nil {
+				t.Fatal(err)
+			}
+		}
+		before := seen(f)
+		for n := 1; n <= 64*geom.Chunks(c); n++ {
+			if n == c.Sector+64 {
+				continue
+			}
+			for _, bad := range [][]int{nil, {1}, {1, 2, 3, 4}} {
+				m, _ := media.New(f, n, bad...)
+				s, err := ftl.Open(c, m)
+				wraps(t, "open", s, err, api.ErrArg)
+				s, err = ftl.Format(c, m, none)
+				wraps(t, "format", s, err, api.ErrArg)
+				s, err = ftl.Format(c, m, all)
+				wraps(t, "too few blocks", s, err, api.ErrArg)
+			}
+		}
+		f.Cut()
+		short, _ := media.New(f, c.Sector+63)
+		s, err := ftl.Open(c, short)
+		wraps(t, "open, off", s, err, api.ErrArg)
+		s, err = ftl.Format(c, short, none)
+		wraps(t, "format, off", s, err, api.ErrArg)
+		f.On()
+		if seen(f) != before {
+			t.Errorf("an error has changed something: %v, %v", before, seen(f))
+		}
+		if s, err = ftl.Open(c, m); there != (err == nil) {
+			t.Errorf("open of the right length: %v", err)
+		}
+		if s, err = ftl.Format(c, m, none); err != nil {
+			t.Error(err)
+		}
+	}
+}
+
+// TestWidthArmed: what is armed stays armed, and the flash blank.
+func TestWidthArmed(t *testing.T) { // P1101, P404
+	c := small()
+	f, m := flashOf(c)
+	short, _ := media.New(f, c.Sector+1)
+	f.Arm(1)
+	s, err := ftl.Format(c, short, none)
+	wraps(t, "format", s, err, api.ErrArg)
+	s, err = ftl.Open(c, short)
+	wraps(t, "open", s, err, api.ErrArg)
+	s, err = ftl.Open(c, m)
+	wraps(t, "nothing there", s, err, api.ErrLost)
+	if f.Off() || seen(f) != [4]int64{} {
+		t.Errorf("an error has changed something: %v", seen(f))
+	}
+	s, err = ftl.Format(c, m, none)
+	wraps(t, "what was armed", s, err, api.ErrDown)
+}
+
 func TestFormatAgain(t *testing.T) { // P1101: what lay there, in failed blocks too, is gone
 	c := small()
 	b := newBench(t, c, 5, none)

@@ -42,9 +42,6 @@ func Open(c api.Config, m *media.Media) (*Store, error) {
 }
 
 func (s *engine) restore() api.Errno {
-	if s.narrow() {
-		return api.ErrArg
-	}
 	if s.Flash().Off() {
 		return api.ErrDown
 	}
@@ -77,9 +74,6 @@ func (o *opening) look() api.Errno {
 		}
 		if e != api.OK {
 			continue
-		}
-		if len(data) != headSize+o.c.Sector {
-			return api.ErrArg
 		}
 		o.first[b], o.own[b] = unpack(data)
 		if !o.own[b] {

@@ -79,6 +79,18 @@ func TestNew(t *testing.T) { // P601
 	}
 }
 
+func TestWide(t *testing.T) { // P601: a media knows how many bytes its pages have, and nothing is written to tell it
+	m, f := make2(t)
+	for n := -1; n < 200; n++ {
+		if m.Wide(n) != (n == 100) {
+			t.Errorf("pages of %d bytes: %v", n, m.Wide(n))
+		}
+	}
+	if s, p, r, e := f.Count(); s+p+r+e != 0 {
+		t.Error("the flash was asked")
+	}
+}
+
 func TestWrite(t *testing.T) { // P602
 	m, f := make2(t, 1)
 	write(t, m, 4, data(0), 0, api.ErrArg)
