@@ -92,6 +92,25 @@ func TestWrite(t *testing.T) { // P1502
 	}
 }
 
+func TestFilesApart(t *testing.T) { // P1502, P7: a write is of its own file alone
+	f, g := regs.New(), regs.New()
+	for n := range 64 { // rising: RDone is behind what it closes
+		f.Write(n, 1)
+	}
+	if g.Bytes() != (regs.Bytes{}) || f.Bytes() == g.Bytes() {
+		t.Error("a write was heard of by another file")
+	}
+	for n := range 64 {
+		if k := kinds()[n]; (f.Get(n) == 1) != (k == 1 || k == 3) {
+			t.Errorf("register %d: %d", n, f.Get(n))
+		}
+		g.Write(n, 1)
+	}
+	if f.Bytes() != g.Bytes() {
+		t.Error("the same writes, other registers")
+	}
+}
+
 func TestOnce(t *testing.T) { // P1502, P1503
 	f := regs.New()
 	is(t, "boot 0", f.Write(api.RBoot, 1), api.OK)
