@@ -2,6 +2,7 @@ package wire_test
 
 import (
 	"bytes"
+	"math"
 	"math/rand"
 	"testing"
 
@@ -100,6 +101,28 @@ func TestBlocks(t *testing.T) { // P2301
 	sends(t, "no block is waited for", l, []byte{token.Start}, nil)
 	if l.Errors() != 5 {
 		t.Error(l.Errors())
+	}
+}
+
+func TestLengths(t *testing.T) { // P1, P2301: a block of any length is waited for
+	b, answer := start()
+	block := token.Lay(row(1))
+	for _, n := range []int{129, math.MaxInt - 3, math.MaxInt - 2, math.MaxInt - 1, math.MaxInt} {
+		_, m := line(t)
+		l := wire.New(m, n)
+		sends(t, "start", l, b, answer)
+		l.Send(ask(api.WriteOne, 1))
+		sends(t, "too short", l, block, nil)
+		if l.Waiting() != len(block) || l.Errors() != 0 || m.State() != api.SRecv {
+			t.Errorf("length %d: %d wait, %d dropped", n, l.Waiting(), l.Errors())
+		}
+	}
+	for _, n := range []int{math.MinInt, -1, 0} {
+		_, m := line(t)
+		l := wire.New(m, n)
+		sends(t, "start", l, b, answer)
+		l.Send(ask(api.WriteOne, 1))
+		l.Send(block)
 	}
 }
 
